@@ -1,0 +1,1 @@
+"""Letters exchanged: what can have been written, if each letter was exchanged for another."""
