@@ -17,6 +17,11 @@ def longer_way(way, written, word):
     return longer
 
 
+def fitting_numbers(way, written, words):
+    """The numbers, in the list, of the words that what is written can be if the way holds."""
+    return [number for number, word in enumerate(words) if longer_way(way, written, word) is not None]
+
+
 def longer_ways(ways, written, words):
     """All ways that read what is written too, in order; cut off as soon as they are many."""
     found = []
@@ -37,7 +42,7 @@ def all_readings(text, words, hints):
     ways = [dict(hints)]
     for written in text:
         # What doesn't go with the hints alone goes with no way: left out once, not for each way.
-        fitting = [word for word in words if longer_way(hints, written, word) is not None]
+        fitting = [words[number] for number in fitting_numbers(hints, written, words)]
         ways = longer_ways(ways, written, fitting)
         if len(ways) > MOST_WAYS:
             return None

@@ -2,7 +2,8 @@
 
 from lettersexchanged.desk import answers
 
-NUMBERS = {"begins": 0, "word": 1, "text": 2, "hint": 3, "readings": 4, "sure": 5}
+NUMBERS = {"begins": 0, "word": 1, "text": 2, "hint": 3, "readings": 4, "sure": 5, "may": 6, "tells": 7, "need": 8,
+           "nearest": 9, "shapes": 10}
 
 BIGGEST = 4294967295
 

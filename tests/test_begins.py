@@ -32,7 +32,8 @@ class Begins(unittest.TestCase):
 
     def test_there_is_no_text_then(self):
         before = words([0]) + [text([0])]
-        for call in (("hint", 0, 0), ("readings",), ("sure",)):
+        for call in (("hint", 0, 0), ("readings",), ("sure",), ("may", 0), ("tells", 0), ("need", 0), ("nearest",),
+                     ("shapes", 0)):
             self.assertEqual(last(*before, ("begins", 26), call), [-3])
 
     def test_there_is_no_hint_then(self):
